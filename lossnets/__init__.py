@@ -1,0 +1,1 @@
+"""mendnet: nets that one loss can't part."""
