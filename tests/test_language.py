@@ -1,4 +1,4 @@
-"""The package's files against those rules of LANGUAGE.md that can be seen in the text."""
+"""The package's files against a part of LANGUAGE.md: those rules that are easily seen in the text."""
 
 import ast
 import builtins
