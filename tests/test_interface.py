@@ -7,11 +7,15 @@ import sys
 import unittest
 
 from asking import TOP, add, ask, begin, check_oneway, check_side, check_sides, count, drop, joined, line
+from asking import mend, oneway
 from lossnets.nets import answers
 
 MIXED = joined([count(), begin(6), begin(3), add(0, 1), add(2, 0), line(1), add(1, 1), drop(0),
-                line(0), add(1, 2), line(0), line(TOP), count()])
-MIXED_TOLD = [1, -4, 1, -1, 1, 0, 1, 0, 1, 1, 2, 2, 0, 1, -1, 1, 0, 1, -3, 1, 0, 2, 1, 2, 1, -1, 1, 2]
+                line(0), add(1, 2), line(0), line(TOP), count(), oneway(), mend(), check_oneway([0, 1]),
+                check_side([2, TOP, 0]), check_sides([0, TOP, 1], 1), add(0, 1), oneway(), mend(),
+                check_oneway([0, 0, 0]), check_side([]), check_sides([0, 1, 2], 1)])
+MIXED_TOLD = [1, -4, 1, -1, 1, 0, 1, 0, 1, 1, 2, 2, 0, 1, -1, 1, 0, 1, -3, 1, 0, 2, 1, 2, 1, -1, 1, 2,
+              2, 0, 0, 6, 1, 0, 1, 0, 1, 0, 1, 0, 1, 1, 1, 1, 1, 2, 4, 1, 0, 0, 0, 1, 0, 1, 1, 1, 0, 1, 0]
 
 
 class Unchanging(list):
@@ -28,6 +32,21 @@ class Form(unittest.TestCase):
         self.assertEqual(answers([4]), [1, -4])
         self.assertEqual(answers([0, 2, 1, 1, 0, 3, 0, 4, 2, 0, 4]), [1, 0, 1, 0, 2, 1, 0, 1, 1, 1, 0, 1, 0])
         self.assertEqual(answers(MIXED), MIXED_TOLD)
+
+    def test_what_oneway_and_mend_tell_stands_without_a_count(self):
+        self.assertEqual(answers([0, 1, 5, 6]), [1, 0, 1, 1, 1, 0])
+        self.assertEqual(answers([0, 2, 5, 6]), [1, 0, 2, 0, 0, 7, 2, 0, 1, 0, 1, 0, 1])
+        self.assertEqual(answers([0, 2, 1, 0, 1, 1, 0, 1, 5, 6]), [1, 0, 1, 0, 1, 1, 3, 1, 0, 1, 1, 0])
+
+    def test_how_the_checks_stand_in_the_list(self):
+        # Their rows with how many numbers they have before them; of checkSides k ahead of that.
+        self.assertEqual(answers([0, 2, 7, 0, 7, 2, 0, 1, 4]), [1, 0, 1, 0, 1, 0, 1, 0])
+        self.assertEqual(answers([0, 2, 8, 0, 8, 1, 1, 8, 2, 0, 1, 4]), [1, 0, 1, 0, 1, 1, 1, 0, 1, 0])
+        self.assertEqual(answers([0, 2, 9, 1, 2, 0, 5, 9, 2, 2, 0, 5, 9, 0, 0, 9, 0, 2, 3, 3, 4]),
+                         [1, 0, 1, 1, 1, 0, 1, 0, 1, 1, 1, 0])
+
+    def test_a_refused_asking_is_one_number(self):
+        self.assertEqual(answers([5, 6, 7, 2, 0, 1, 8, 1, 0, 9, 1, 2, 0, 1, 0, 2, 4]), [1, -4] * 5 + [1, 0, 1, 0])
 
     def test_a_refused_line_is_one_number(self):
         self.assertEqual(answers([3, 0, 0, 2, 3, 0, 3, 8]), [1, -4, 1, 0, 1, -3, 1, -1])
@@ -46,12 +65,22 @@ class Form(unittest.TestCase):
         for call in [check_oneway(looks_like_calls), check_side(looks_like_calls),
                      check_sides(looks_like_calls, 0), check_sides(looks_like_calls, TOP)]:
             self.assertEqual(ask(call, count(), begin(2), count()), [[-4], [-4], [0], [0]])
+            self.assertEqual(ask(begin(2), call, count(), call, add(1, 0)), [[0], [0], [0], [0], [0]])
 
     def test_four_hundred_numbers(self):
         for call in [check_oneway([TOP] * 396), check_side([4] * 396), check_sides([0] * 395, 4)]:
             calls = joined([call, begin(5)])
             self.assertEqual(len(calls), 400)
             self.assertEqual(answers(calls), [1, -4, 1, 0])
+        for call, told in [(check_oneway([0] * 396), 0), (check_side([4] * 396), 1), (check_side([0, 1, 2, 3] * 99), 1),
+                           (check_side([TOP] * 392 + [4, 3, 1, TOP]), 1), (check_sides([0] * 395, 0), 0)]:
+            calls = joined([begin(5), call])
+            self.assertEqual(len(calls), 400)
+            self.assertEqual(answers(calls), [1, 0, 1, told])
+
+    def test_thirty_askings(self):
+        for call in [oneway(), mend()]:
+            self.assertEqual(ask(begin(5), *[call] * 29), [[0]] + ask(begin(5), call)[1:] * 29)
 
     def test_answers_are_a_list_of_plain_whole_numbers(self):
         told = answers(MIXED)

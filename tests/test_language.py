@@ -29,6 +29,10 @@ WORDS = """type typing typing_extensions enum Enum IntEnum StrEnum Flag IntFlag 
 
 PARTS_OF_WORDS = ["dataclass", "overload", "contextmanager"]
 
+WALKED_NAMES = ["zip", "enumerate", "reversed", "range"]
+WALKED_METHODS = ["items", "keys", "values"]
+WALKERS = ["list", "tuple", "dict", "sorted", "sum", "any", "all", "enumerate", "zip", "min", "max"]
+
 UNDERSCORED = ["__init__", "__eq__", "__repr__", "__str__", "__len__"]
 
 
@@ -50,6 +54,22 @@ def bound_names(tree):
             yield node.arg
         elif isinstance(node, ast.Attribute):
             yield node.attr
+
+
+def is_walked_at_once(call):
+    if not isinstance(call, ast.Call):
+        return False
+    if isinstance(call.func, ast.Attribute):
+        return call.func.attr in WALKED_METHODS
+    return isinstance(call.func, ast.Name) and call.func.id in WALKED_NAMES
+
+
+def walking_places(tree):
+    for node in ast.walk(tree):
+        if isinstance(node, (ast.For, ast.comprehension)):
+            yield node.iter
+        elif isinstance(node, ast.Call) and isinstance(node.func, ast.Name) and node.func.id in WALKERS:
+            yield from node.args if node.func.id == "zip" else node.args[:1]
 
 
 def methods_defined():
@@ -135,6 +155,37 @@ class Code(unittest.TestCase):
                     right = node.comparators[-1]
                     self.assertTrue(isinstance(right, ast.Constant) and right.value in (None, True, False),
                                     (path, node.lineno))
+
+    def test_top_of_a_file_and_each_name_there_once(self):
+        for path, tree in trees():
+            names = []
+            for node in tree.body[1:]:
+                self.assertIsInstance(node, (ast.ImportFrom, ast.FunctionDef, ast.ClassDef, ast.Assign), path)
+                names += [name.id for name in node.targets] if isinstance(node, ast.Assign) else []
+                names += [node.name] if isinstance(node, (ast.FunctionDef, ast.ClassDef)) else []
+            self.assertIsNotNone(ast.get_docstring(tree), path)
+            self.assertEqual(sorted(names), sorted(set(names)), path)
+
+    def test_comprehensions_have_one_for_and_at_most_one_if(self):
+        for path, tree in trees():
+            for node in ast.walk(tree):
+                if isinstance(node, ast.ListComp):
+                    self.assertEqual(len(node.generators), 1, (path, node.lineno))
+                    self.assertLessEqual(len(node.generators[0].ifs), 1, (path, node.lineno))
+
+    def test_exponents_are_written(self):
+        for path, tree in trees():
+            for node in ast.walk(tree):
+                if isinstance(node, ast.BinOp) and isinstance(node.op, ast.Pow):
+                    self.assertIsInstance(node.right, ast.Constant, (path, node.lineno))
+                    self.assertIn(node.right.value, range(65), (path, node.lineno))
+
+    def test_what_is_to_be_walked_at_once_is_not_kept(self):
+        for path, tree in trees():
+            places = [id(node) for node in walking_places(tree)]
+            for node in ast.walk(tree):
+                if is_walked_at_once(node):
+                    self.assertIn(id(node), places, (path, node.lineno))
 
     def test_one_target_in_an_assignment_and_no_else_behind_a_loop(self):
         for path, tree in trees():
